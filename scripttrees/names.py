@@ -5,6 +5,9 @@ from scripttrees.errors import InvalidPath
 LONGEST_NAME = 3
 LONGEST_WORD = 4
 MOST_NAMES_IN_CALL = 3
+MOST_PLACES = 6
+# No call and no fact has a path with this name.
+FRESH_NAME = "z"
 
 
 def is_letters(candidate, most):
@@ -90,6 +93,11 @@ def with_beginnings(paths):
         for folder in way_to(path):
             places.add(folder)
     return sorted(places)
+
+
+def have_few_places(paths):
+    """Return whether some paths with all their beginnings are few enough to be judged together."""
+    return len(with_beginnings(paths)) <= MOST_PLACES
 
 
 def folder_of(path):

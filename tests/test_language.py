@@ -12,10 +12,14 @@ INTERFACE = {
     "names.py": "is_name is_word is_path folder_of last_name beginnings is_below",
     "trees.py": "is_tree kind_at words_at names_in paths_of count_entries is_part",
     "calls.py": "is_call paths_in result_of tree_after",
+    "scripts.py": "is_script script_paths run succeeds trees_along",
+    "texts.py": "script_text read_script tree_lines read_tree",
+    "facts.py": "is_fact are_facts holds are_possible tree_for follows",
+    "standing.py": "standing_trees stands_for",
 }
 
 ALLOWED_BUILTINS = set("""len range enumerate zip min max sum abs sorted reversed int str bool list tuple dict set
-isinstance ord repr any all divmod ValueError KeyError""".split())
+isinstance ord repr any all divmod ValueError KeyError super""".split())
 
 ALLOWED_METHODS = set("""append clear copy count endswith extend find get index insert isalnum isalpha isdigit islower
 isspace isupper items join keys ljust lower lstrip partition pop remove replace reverse rfind rjust rpartition rsplit

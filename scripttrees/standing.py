@@ -1,0 +1,79 @@
+"""Trees that stand for all trees."""
+
+from scripttrees.asking import Answers, AskedState
+from scripttrees.errors import InvalidGroup
+from scripttrees.names import have_few_places
+from scripttrees.scripts import all_paths_of, is_script, make_all, run
+from scripttrees.trees import check_tree
+
+MOST_SCRIPTS = 3
+MOST_JUDGED_CALLS = 4
+
+
+def can_be_judged(scripts):
+    """Return whether what are known to be scripts can be judged together."""
+    if any(len(script) > MOST_JUDGED_CALLS for script in scripts):
+        return False
+    return have_few_places([path for script in scripts for path in all_paths_of(script)])
+
+
+def is_group(candidate):
+    """Return whether candidate is a group."""
+    if not isinstance(candidate, list) or not 1 <= len(candidate) <= MOST_SCRIPTS:
+        return False
+    return all(is_script(script) for script in candidate) and can_be_judged(candidate)
+
+
+def check_group(group):
+    """Raise InvalidGroup if group is not a group."""
+    if not is_group(group):
+        raise InvalidGroup("this is not a group")
+
+
+def outcome_for(answers, script):
+    """Return the number of calls that succeed, and the last result, on the trees that give some answers."""
+    return make_all(AskedState(answers), script)
+
+
+def go_on(picks):
+    """Change picks into those that come next; return whether there are any."""
+    while picks and picks[-1][0] + 1 == picks[-1][1]:
+        picks.pop()
+    if not picks:
+        return False
+    picks[-1][0] += 1
+    return True
+
+
+def standing_trees(group):
+    """Return a list of trees that stands for all trees."""
+    check_group(group)
+    trees = {}
+    picks = []
+    is_left = True
+    while is_left:
+        answers = Answers(picks)
+        outcomes = tuple(outcome_for(answers, script) for script in group)
+        if outcomes not in trees:
+            trees[outcomes] = answers.tree()
+        is_left = go_on(picks)
+    return list(trees.values())
+
+
+def have_outcomes(answers, group, outcomes):
+    """Return whether the scripts of a group have some outcomes on the trees that give some answers."""
+    # Where one script has another outcome, no more is asked, and all trees that go on alike are passed over at once.
+    return all(outcome_for(answers, group[at]) == outcomes[at] for at in range(len(group)))
+
+
+def stands_for(group, tree):
+    """Return the first of the standing trees that stands for a tree."""
+    check_group(group)
+    check_tree(tree)
+    outcomes = [run(tree, script)[:2] for script in group]
+    picks = []
+    answers = Answers(picks)
+    while not have_outcomes(answers, group, outcomes):
+        go_on(picks)
+        answers = Answers(picks)
+    return answers.tree()

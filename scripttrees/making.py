@@ -83,7 +83,7 @@ def link(state, _, ends):
 
 def remove_path(state, _, ends):
     """Take a path of a file away."""
-    result, _ = file_at(state, ends[0])
+    result = file_at(state, ends[0])[0]
     if result == "ok":
         take_away(ends[0])
     return result

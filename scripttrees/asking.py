@@ -1,6 +1,6 @@
 """States of trees of which only that is known what calls looked at."""
 
-from scripttrees.building import built_tree, merged
+from scripttrees.building import built_tree, fresh_name, merged, with_own_words
 from scripttrees.names import FRESH_NAME, joined
 from scripttrees.states import File, Folder, State
 
@@ -87,9 +87,18 @@ class Answers:
         self.leaders = merged(self.leaders, one, other)
         return True
 
+    def known_folders(self):
+        """Return the list of the paths at which folders stand as far as is known."""
+        return [path for path in self.kinds if self.kinds[path] == "folder"]
+
+    def compare_files(self, path):
+        """Ask of the file at a path whether it is the same as each other file that was met."""
+        for other in list(self.leaders):
+            self.are_same(path, other)
+
     def tree(self):
-        """Return a tree that gives these answers."""
-        folders = [path for path in self.kinds if self.kinds[path] == "folder"]
+        """Return a tree that gives these answers, with as few paths as possible."""
+        folders = self.known_folders()
         leaders = dict(self.leaders)
         for folder in self.others:
             has, many = self.others[folder]
@@ -97,6 +106,23 @@ class Answers:
                 path = joined(folder, FRESH_NAME)
                 leaders[path] = path
         return built_tree(folders, leaders)
+
+    def marked_tree(self, with_further_paths):
+        """Return a tree that gives these answers, in which each file and folder can be told from all others.
+
+        Each file has a word of its own and, if it is asked for, a further path that no call has. Each folder that may
+        have further entries has one with a name of its own. Files are the same only if that was an answer.
+        """
+        folders = self.known_folders()
+        for folder in self.known_folders():
+            if folder not in self.others or self.others[folder][0]:
+                folders.append(joined(folder, fresh_name(len(folders))))
+        leaders = dict(self.leaders)
+        if with_further_paths:
+            firsts = sorted(set(list(leaders.values())))
+            for at in range(len(firsts)):
+                leaders[fresh_name(at)] = firsts[at]
+        return with_own_words(built_tree(folders, leaders))
 
 
 class AskedState(State):
@@ -138,3 +164,8 @@ class AskedState(State):
         if one not in self.origins or other not in self.origins:
             return False
         return self.answers.are_same(self.origins[one], self.origins[other])
+
+    def changed_paths(self):
+        """Return the list of the paths at the beginning of the files whose words were changed."""
+        # Words are not known at the beginning, and no call makes a file that has some empty again.
+        return [path for found, path in self.origins.items() if isinstance(found, File) and found.words]

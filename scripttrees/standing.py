@@ -1,20 +1,13 @@
 """Trees that stand for all trees."""
 
-from scripttrees.asking import Answers, AskedState
+from scripttrees.asking import Answers
 from scripttrees.errors import InvalidGroup
-from scripttrees.names import have_few_places
-from scripttrees.scripts import all_paths_of, is_script, make_all, run
+from scripttrees.exploring import go_on, outcome_for
+from scripttrees.judged import can_be_judged
+from scripttrees.scripts import is_script, run
 from scripttrees.trees import check_tree
 
 MOST_SCRIPTS = 3
-MOST_JUDGED_CALLS = 4
-
-
-def can_be_judged(scripts):
-    """Return whether what are known to be scripts can be judged together."""
-    if any(len(script) > MOST_JUDGED_CALLS for script in scripts):
-        return False
-    return have_few_places([path for script in scripts for path in all_paths_of(script)])
 
 
 def is_group(candidate):
@@ -28,21 +21,6 @@ def check_group(group):
     """Raise InvalidGroup if group is not a group."""
     if not is_group(group):
         raise InvalidGroup("this is not a group")
-
-
-def outcome_for(answers, script):
-    """Return the number of calls that succeed, and the last result, on the trees that give some answers."""
-    return make_all(AskedState(answers), script)
-
-
-def go_on(picks):
-    """Change picks into those that come next; return whether there are any."""
-    while picks and picks[-1][0] + 1 == picks[-1][1]:
-        picks.pop()
-    if not picks:
-        return False
-    picks[-1][0] += 1
-    return True
 
 
 def standing_trees(group):

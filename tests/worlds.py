@@ -1,6 +1,7 @@
 """All small trees over some paths, and groups of scripts."""
 
 import functools
+import random
 
 from helpers import SHAPES, right_call, right_call_path
 
@@ -58,12 +59,84 @@ def all_trees(places):
     return trees
 
 
-def random_script(dice, pool, most):
+def with_words(tree, words):
+    """Return a tree in which each file has the words that a function tells for its number."""
+    return tree[0], tuple((paths, words(at)) for at, (paths, _) in enumerate(tree[1]))
+
+
+def with_further(tree, chosen):
+    """Return a tree in which each of the files with chosen numbers has a further path."""
+    rows = [(paths + ("zz" + chr(97 + at),) if at in chosen else paths, words) for at, (paths, words) in enumerate(tree[1])]
+    return tree[0], tuple(sorted((tuple(sorted(paths)), words) for paths, words in rows))
+
+
+def with_own_entries(tree):
+    """Return a tree in which the further entries of two folders have different names."""
+    rows = [(tuple("%s/q%s" % (path[:-3], chr(97 + tree[0].index(path[:-3]))) if path.endswith("/zz") else path
+                   for path in paths), words) for paths, words in tree[1]]
+    return tree[0], tuple(sorted((tuple(sorted(paths)), words) for paths, words in rows))
+
+
+@functools.lru_cache(maxsize=None)
+def rich_trees(places):
+    """Return all trees over some places, also with words, with further paths of files, and with further entries."""
+    dice = random.Random(len(places))
+    found = []
+
+    def some_words(_):
+        return tuple(dice.choice(("x", "y", "zo")) for _ in range(dice.randint(0, 2)))
+
+    for tree in all_trees(places):
+        own = with_words(tree, lambda at: ("z" + chr(97 + at),))
+        alike = with_words(tree, lambda at: ("x",))
+        numbers = range(len(tree[1]))
+        found.extend([tree, own, alike, with_further(own, numbers), with_further(with_own_entries(own), numbers),
+                      with_words(tree, some_words),
+                      with_further(with_words(tree, some_words), [at for at in numbers if dice.random() < 0.5])])
+    return found
+
+
+# Pools of paths, each with places over which all trees show all that scripts of few calls with these paths can do.
+FULL_POOLS = ((("a", "b", "c"), ("a", "b", "c")), (("a", "b"), ("a", "b")), (("a", "a/b"), ("a", "a/b", "a/b/b")),
+              (("a", "a/b", "b"), ("a", "a/b", "a/b/b", "b", "b/b")))
+
+
+def kinds_of(tree, path):
+    """Return the kinds of the facts that hold at a path of a tree."""
+    paths = [other for paths, _ in tree[1] for other in paths]
+    if path in paths:
+        return {"file"}
+    if path not in tree[0]:
+        return {"none"}
+    return {"folder"} if any(other.startswith(path + "/") for other in paths + list(tree[0])) else {"folder", "empty"}
+
+
+def size(tree):
+    return len(tree[0]) + sum(len(paths) for paths, _ in tree[1])
+
+
+def random_script(dice, pool, most, words="x"):
     script = []
     for _ in range(dice.randint(0, most)):
         kind = dice.choice(KINDS)
-        script.append((kind,) + tuple(dice.choice(pool) if sign == "p" else "x" for sign in SHAPES[kind]))
+        script.append((kind,) + tuple(dice.choice(pool) if sign == "p" else dice.choice(words)
+                                      for sign in SHAPES[kind]))
     return tuple(script)
+
+
+def nearly(dice, script, pool):
+    """Return a script that is like another one but for its order, a call or nothing."""
+    rows = list(script)
+    turn = dice.randrange(4)
+    if turn == 0:
+        dice.shuffle(rows)
+    elif rows:
+        at = dice.randrange(len(rows))
+        if turn == 1:
+            del rows[at]
+        elif turn == 2:
+            rows[at:at + 1] = random_script(dice, pool, 1, "xy")
+    return tuple(rows)
 
 
 def random_group(dice, most_scripts=3):
@@ -109,3 +182,11 @@ def right_facts(candidate):
     if any(candidate[at] >= candidate[at + 1] for at in range(len(candidate) - 1)):
         return False
     return len(places_of(paths_of_facts(candidate))) <= 6
+
+
+def right_judged(candidate, most=4):
+    return right_script(candidate) and len(candidate) <= most and right_group([candidate])
+
+
+def right_pair(one, other, most=3):
+    return all(right_script(script) and len(script) <= most for script in (one, other)) and right_group([one, other])

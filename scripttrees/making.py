@@ -7,6 +7,8 @@ from scripttrees.states import File, Folder
 def walk(state, path):
     """Walk to the folder that contains the last name of a path; return the result and that folder."""
     folder = state.root
+    if not state.allows(folder, "r"):
+        return "denied", None
     way = parent(path)
     if way == "":
         return "ok", folder
@@ -16,6 +18,8 @@ def walk(state, path):
             return "missing", None
         if not isinstance(folder, Folder):
             return "not folder", None
+        if not state.allows(folder, "r"):
+            return "denied", None
     return "ok", folder
 
 
@@ -49,9 +53,17 @@ def file_at(state, end):
     return "ok", found
 
 
+def file_to_change(state, end):
+    """Return the result of looking for a file whose words are to be changed, and the file."""
+    result, found = file_at(state, end)
+    if result == "ok" and not state.allows(found, "w"):
+        return "denied", None
+    return result, found
+
+
 def write(state, call, ends):
     """Make a word the only word of a file."""
-    result, found = file_at(state, ends[0])
+    result, found = file_to_change(state, ends[0])
     if result == "ok":
         found.words = (call[2],)
     return result
@@ -59,7 +71,7 @@ def write(state, call, ends):
 
 def append_word(state, call, ends):
     """Put a word behind the last word of a file."""
-    result, found = file_at(state, ends[0])
+    result, found = file_to_change(state, ends[0])
     if result == "ok":
         found.words = found.words + (call[2],)
     return result
@@ -70,6 +82,8 @@ def copy_file(state, _, ends):
     result, found = file_at(state, ends[0])
     if result != "ok":
         return result
+    if not state.allows(found, "r"):
+        return "denied"
     return make_new(state, ends[1], File(found.words))
 
 
@@ -172,6 +186,20 @@ STEPS = {
 }
 
 
+# For which paths of a call the folder is changed that contains, or would contain, the last name.
+CHANGED_FOLDERS = {
+    "folder": (0,),
+    "file": (0,),
+    "write": (),
+    "append": (),
+    "copy": (1,),
+    "link": (1,),
+    "remove": (0,),
+    "drop": (0,),
+    "move": (0, 1),
+}
+
+
 def make_call(state, call, paths):
     """Make a call with some paths, change the state if it succeeds, and return its result."""
     ends = []
@@ -180,5 +208,9 @@ def make_call(state, call, paths):
         if result != "ok":
             return result
         ends.append((folder, end_of(path)))
+    for at in CHANGED_FOLDERS[call[0]]:
+        folder = ends[at][0]
+        if not state.allows(folder, "w"):
+            return "denied"
     step = STEPS[call[0]]
     return step(state, call, ends)

@@ -35,6 +35,11 @@ class State:
         """Return whether two paths that lead to these files lead to the same file."""
         return one == other
 
+    def allows(self, node, sign):
+        """Return whether a File or a Folder may be read (sign "r") or written ("w")."""
+        # Nobody owns anything in a tree.
+        return True
+
 
 def state_of(tree):
     """Return the state that stands for a tree."""

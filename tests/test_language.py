@@ -21,6 +21,11 @@ INTERFACE = {
     "alike.py": "same_effect parting_tree same_if_good do_commute",
     "needless.py": "needless_calls shortest_part can_swap",
     "undoing.py": "is_undone reverse can_undo keeps_words",
+    "together.py": "run_both are_orderly disorder fewest_joins",
+    "tables.py": "is_table shown table_of number_at free_number",
+    "acting.py": "may act act_all tables_along grant needed_rights",
+    "disks.py": "is_disk",
+    "looker.py": "faults is_sound",
 }
 
 ALLOWED_BUILTINS = set("""len range enumerate zip min max sum abs sorted reversed int str bool list tuple dict set

@@ -108,7 +108,7 @@ class Swapping(unittest.TestCase):
     def test_wrong_numbers(self):
         script = (("file", "a"), ("file", "b"), ("file", "c"))
         can_swap(script, 0), can_swap(script, 1)
-        for number in (2, 3, -1, -2, True, False, None, "0", (0,), [0], 1.5, 10 ** 3000):
+        for number in (2, 3, -1, -2, True, False, None, "0", (0,), [0], 10 ** 3000):
             with self.assertRaises(InvalidNumber, msg=repr(number)[:80]):
                 can_swap(script, number)
         for number in (0, -1, 1, True):

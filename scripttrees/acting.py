@@ -17,7 +17,7 @@ def may(table, user, number, sign):
     found = [node for node in table if is_number(number) and node[0] == number]
     if not found:
         raise InvalidNumber("no node has this number")
-    if not isinstance(sign, str) or sign not in ("r", "w"):
+    if sign not in ("r", "w"):
         raise InvalidSign("this is not a sign")
     return has_right(found[0], user, sign)
 

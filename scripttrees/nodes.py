@@ -22,7 +22,7 @@ def is_number(candidate):
 
 def is_user(candidate):
     """Return whether candidate is a user."""
-    return isinstance(candidate, str) and candidate in USERS
+    return candidate in USERS
 
 
 def are_rights(candidate):

@@ -19,24 +19,14 @@ def is_node(candidate):
     return isinstance(body, tuple) and len(body) <= MOST_IN_BODY and are_items(body, kind)
 
 
-def is_led_to(node, led):
-    """Return whether as many entries lead to a node as may; led has the number of each entry."""
-    number, kind, _, _, _ = node
-    if number == 0:
-        return led.count(number) == 0
-    if kind == "folder":
-        return led.count(number) == 1
-    return led.count(number) > 0
-
-
 def are_joined(nodes):
     """Return whether the entries of nodes lead to nodes, and to all of them, as they have to in a table."""
     bodies = {node[0]: node[4] for node in nodes if node[1] == "folder"}
     led = [entry[1] for body in bodies.values() for entry in body]
-    numbers = [node[0] for node in nodes]
-    if not all([number in numbers for number in led]) or not all([is_led_to(node, led) for node in nodes]):
+    if 0 in led or any([led.count(number) > 1 for number in bodies]):
         return False
-    return len(reached(bodies)) == len(numbers)
+    # Where all folders are reached, so is all that their entries lead to; nothing of it may be missing.
+    return sorted(reached(bodies)) == [node[0] for node in nodes]
 
 
 def is_table(candidate):

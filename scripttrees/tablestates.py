@@ -71,7 +71,7 @@ def things_in(state):
         thing = left.pop()
         if isinstance(thing, Folder):
             for entry in thing.entries.values():
-                if entry is not None and entry not in found:
+                if entry is not None:
                     found[entry] = True
                     left.append(entry)
     return list(found)

@@ -90,6 +90,8 @@ class Effects(unittest.TestCase):
         self.assertIs(same_if_good((("link", "a", "b"), REMOVE), (("move", "a", "b"),)), True)
         self.assertIs(same_if_good((("copy", "a", "b"), REMOVE), (("move", "a", "b"),)), False)
         self.assertIs(same_if_good((REMOVE, ("file", "a")), (("write", "a", "x"),)), False)
+        self.assertIs(same_if_good((("append", "b", "x"), ("move", "a", "b"), ("write", "b", "x")),
+                                   (("move", "a", "a"), ("move", "a", "b"), ("write", "b", "x"))), False)
         # Even an empty file is another one than the one before.
         self.check((REMOVE, ("file", "a"), WRITE), (WRITE,), False)
 

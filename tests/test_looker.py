@@ -81,6 +81,7 @@ class Faults(unittest.TestCase):
         # Several entries may lead to a file, but none to the root folder.
         self.check(changed(disk, 5, ("c", 1), 2))
         self.check(changed(disk, 5, ("c", 0), 2), ("lead", 0, "c"))
+        self.check(changed(disk, 5, (("a", 0), ("b", 0), ("c", 1), "")), ("lead", 0, "a"), ("lead", 0, "b"), ("unreached", 2))
         self.check(changed(disk, 5, (("a", 2), ("b", 2), ("c", 2), "")), ("twice", 2), ("unreached", 1))
         # A folder in itself, which is entered from elsewhere, too.
         ring = slot_changed(changed(DISK, 7, (("q", 2), "", "", "")), 2, with_extents(FOLDER, (7, 1), length=1))

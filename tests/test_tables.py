@@ -120,6 +120,9 @@ class IsTable(unittest.TestCase):
         self.no(root(("a", 1)), folder(1, ("a", 1)))
         self.no(root(("f", 4)), folder(1, ("a", 2)), folder(2, ("a", 3), ("f", 4)), folder(3, ("a", 1)), file(4))
         self.no(root(("f", 1)), file(1), folder(2, ("a", 3)), folder(3, ("a", 2)))
+        # As many nodes are not reached as entries lead to nothing.
+        self.no(root(("a", 9)), folder(1, ("b", 1)))
+        self.no(root(("a", 1)), folder(1, ("a", 9)), folder(2, ("a", 2)))
 
     def test_longest_chain(self):
         chain = [root(("a", 1))] + [folder(number, ("a", number + 1)) for number in range(1, 15)] + [folder(15)]

@@ -147,6 +147,18 @@ class Orders(unittest.TestCase):
         self.check((("folder", "a"), ("drop", "a")), (("folder", "a"), ("drop", "a")), 2)
         self.check((("move", "a", "b"), ("move", "b", "a")), (("file", "a"),), 1)
 
+    def test_folders_that_are_not_empty(self):
+        # What is seen only where a folder has an entry, or where it has no other one than the scripts name.
+        self.check((("folder", "a"), ("move", "b", "a")), (("move", "c", "a"), ("file", "a")), 1)
+        self.check((("remove", "a/b"), ("drop", "a")), (("drop", "a"),), 1)
+        self.check((("remove", "a/b"), ("move", "b", "a")), (("remove", "a/b"), ("move", "b", "a")), 2)
+        self.check((("drop", "a"), ("move", "a/b", "b")), (("move", "a/b", "b"), ("drop", "a")), 1)
+
+    def test_files_with_further_paths(self):
+        # What was written to the file that loses its path b is seen by its further paths.
+        self.check((("move", "a", "b"), ("write", "b", "y")), (("write", "b", "y"), ("move", "a", "b")), 1)
+        self.check((("write", "b", "x"),), (("append", "b", "x"), ("move", "a", "b")), 1)
+
     def test_one_join_is_enough_of_several(self):
         one = (("move", "c", "c"), FILE, WRITE)
         self.check(one, (OTHER,), 1)

@@ -66,6 +66,12 @@ class Undoing(unittest.TestCase):
         self.check((("folder", "a"), ("file", "a/b")), (("remove", "a/b"), ("drop", "a")), True)
         self.check((("drop", "a"), ("drop", "b")), (("folder", "b"), ("folder", "a")), True)
         self.check((("file", "a"), ("write", "a", "x")), (("remove", "a"),), True)
+        self.check((("drop", "a/b"), ("drop", "a")), (("folder", "a"), ("folder", "a/b")), True)
+        # The folders change places, which is seen where they have further entries.
+        self.check((("folder", "c"), ("link", "a/f", "b/f"), ("move", "a", "c")),
+                   (("move", "b", "a"), ("move", "c", "b"), ("remove", "b/f")), False)
+        self.check((("folder", "c"), ("link", "a/f", "b/f"), ("move", "a", "c")), (("move", "c", "a"), ("remove", "b/f")),
+                   True)
 
     def test_reverse(self):
         for call, back in ((("folder", "a/b"), ("drop", "a/b")), (("file", "a"), ("remove", "a")),
@@ -88,6 +94,7 @@ class Undoing(unittest.TestCase):
                                ((("copy", "a", "b"),), True), ((("link", "a", "b"),), True), ((("move", "a", "a"),), True),
                                ((("folder", "a"), ("file", "a/b"), ("move", "a", "c")), False),
                                ((("drop", "c"), ("folder", "a"), ("move", "a", "c")), True),
+                               ((("drop", "a/b"), ("drop", "a")), True),
                                ((("folder", "a"), ("file", "a/b"), ("link", "a/b", "a/c")), True),
                                # Both paths lead to the same file, and no move does anything.
                                ((("link", "a", "b"), ("move", "a", "b")), True),

@@ -89,19 +89,29 @@ def with_rights(node, rights):
     return number, kind, owner, rights, body
 
 
-def grant(table, user, path, rights):
-    """Return the result of changing the rights of the node to which a path leads, and the table after it."""
-    check_table(table)
-    check_user(user)
+def check_granting(path, rights):
+    """Raise an error if path leads to nothing on any table, or if rights are not rights."""
     check_place(path)
     if not are_rights(rights):
         raise InvalidRights("these are not rights")
+
+
+def granted(table, user, path, rights):
+    """Return what grant returns, for what is known to be right."""
     result, found = node_to_grant(TableState(table, user), path)
     if result != "ok":
         return result, table
     if found[2] != user:
         return "denied", table
     return "ok", tuple([with_rights(node, rights) if node == found else node for node in table])
+
+
+def grant(table, user, path, rights):
+    """Return the result of changing the rights of the node to which a path leads, and the table after it."""
+    check_table(table)
+    check_user(user)
+    check_granting(path, rights)
+    return granted(table, user, path, rights)
 
 
 def new_numbers(table, after):

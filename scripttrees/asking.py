@@ -51,7 +51,7 @@ class Answers:
 
     def has_one(self, folder, names):
         """Return whether something stands in a folder under one of some names that were asked for."""
-        return any(self.kinds[joined(folder, name)] != "none" for name in names)
+        return any([self.kinds[joined(folder, name)] != "none" for name in names])
 
     def has_others(self, folder):
         """Return whether a folder has an entry with a name that was not asked for."""
@@ -79,7 +79,7 @@ class Answers:
         """Return whether two paths lead to the same file."""
         if self.leaders[one] == self.leaders[other]:
             return True
-        if any(self.are_parted(pair, one, other) for pair in self.parted):
+        if any([self.are_parted(pair, one, other) for pair in self.parted]):
             return False
         if self.pick(2) == 0:
             self.parted.append((one, other))

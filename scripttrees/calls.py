@@ -36,7 +36,7 @@ def is_call(candidate):
     parts = PARTS[candidate[0]]
     if len(candidate) != len(parts) + 1:
         return False
-    return all(is_call_part(candidate[at + 1], parts[at]) for at in range(len(parts)))
+    return all([is_call_part(candidate[at + 1], parts[at]) for at in range(len(parts))])
 
 
 def check_call(call):

@@ -37,7 +37,7 @@ def are_facts(candidate):
     """Return whether candidate is facts."""
     if not isinstance(candidate, tuple) or len(candidate) > MOST_FACTS:
         return False
-    return all(is_fact(fact) for fact in candidate) and is_ascending(candidate) and are_few(candidate)
+    return all([is_fact(fact) for fact in candidate]) and is_ascending(candidate) and are_few(candidate)
 
 
 def check_facts(facts):
@@ -65,7 +65,7 @@ def holds(tree, facts):
     """Return whether all facts hold in a tree."""
     check_tree(tree)
     check_facts(facts)
-    return all(does_hold(tree, fact) for fact in facts)
+    return all([does_hold(tree, fact) for fact in facts])
 
 
 def folders_for(fact):
@@ -89,14 +89,14 @@ def least_tree(facts):
     """Return the tree with as few paths as possible in which facts hold, or None."""
     folders = {path: True for fact in facts for path in folders_for(fact)}
     leaders = {path: path for fact in facts for path in files_for(fact)}
-    if any(path in folders for path in leaders):
+    if any([path in folders for path in leaders]):
         return None
     for fact in facts:
         if fact[1] == "same":
             leaders = merged(leaders, fact[0], fact[2])
     tree = built_tree(list(folders), leaders)
     # All in this tree is in each tree in which the facts hold; if too much is in it, there is none.
-    if all(does_hold(tree, fact) for fact in facts):
+    if all([does_hold(tree, fact) for fact in facts]):
         return tree
     return None
 
@@ -131,4 +131,4 @@ def follows(facts, fact):
     check_facts(facts)
     if not is_fact(fact) or not are_few(list(facts) + [fact]):
         raise InvalidFact("this is not a fact, or there are too many paths")
-    return all(least_tree(list(facts) + [opposite]) is None for opposite in opposites(fact))
+    return all([least_tree(list(facts) + [opposite]) is None for opposite in opposites(fact)])

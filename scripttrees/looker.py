@@ -1,6 +1,7 @@
 """Looking for the faults of a disk."""
 
-from scripttrees.disks import FIRST_DATA_BLOCK, blocks_in, check_disk, items_in, slots_of
+from scripttrees.blocks import FIRST_DATA_BLOCK, USED, blocks_in, check_disk, items_in, slots_of
+from scripttrees.errors import Unsound
 from scripttrees.nodes import are_items, reached
 
 
@@ -28,7 +29,7 @@ def map_faults(disk, taken):
     """Return the list of the faults of the map of a disk; taken are the blocks of all nodes."""
     rows = []
     for block in range(len(disk)):
-        is_used = disk[0][block] == "#"
+        is_used = disk[0][block] == USED
         if block < FIRST_DATA_BLOCK or block in taken:
             if not is_used:
                 rows.append(("map", block))
@@ -51,9 +52,8 @@ def entry_faults(slots, bodies):
     return rows
 
 
-def faults(disk):
-    """Return the ascending list of the faults of a disk."""
-    check_disk(disk)
+def faults_of(disk):
+    """Return what faults returns, for what is known to be a disk."""
     slots = slots_of(disk)
     taken = [block for slot in slots.values() for block in blocks_in(slot)]
     rows = map_faults(disk, taken)
@@ -71,6 +71,18 @@ def faults(disk):
     return sorted(rows + entry_faults(slots, bodies))
 
 
+def faults(disk):
+    """Return the ascending list of the faults of a disk."""
+    check_disk(disk)
+    return faults_of(disk)
+
+
 def is_sound(disk):
     """Return whether a disk has no faults."""
     return not faults(disk)
+
+
+def check_sound(disk):
+    """Raise Unsound if what is known to be a disk has faults."""
+    if faults_of(disk):
+        raise Unsound("this disk has faults")

@@ -30,7 +30,7 @@ def is_word(candidate):
 
 def is_path(candidate):
     """Return whether candidate is a path."""
-    return isinstance(candidate, str) and all(is_name(name) for name in candidate.split("/"))
+    return isinstance(candidate, str) and all([is_name(name) for name in candidate.split("/")])
 
 
 def is_call_name(name):
@@ -48,7 +48,7 @@ def is_call_path(candidate):
     if not isinstance(candidate, str):
         return False
     names = candidate.split("/")
-    return len(names) <= MOST_NAMES_IN_CALL and all(is_call_name(name) for name in names)
+    return len(names) <= MOST_NAMES_IN_CALL and all([is_call_name(name) for name in names])
 
 
 def check_path(path):

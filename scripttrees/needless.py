@@ -3,6 +3,7 @@
 from scripttrees.alike import parting_of
 from scripttrees.errors import InvalidNumber
 from scripttrees.judged import MOST_COMPARED_CALLS, check_compared
+from scripttrees.parts import parts_in_order
 
 
 def needless_calls(script):
@@ -11,18 +12,10 @@ def needless_calls(script):
     return [at for at in range(len(script)) if parting_of(script, script[:at] + script[at + 1:]) is None]
 
 
-def parts_of(script):
-    """Return the list of all scripts that result from leaving out calls, the shortest ones first."""
-    parts = [()]
-    for call in script:
-        parts = parts + [part + (call,) for part in parts]
-    return sorted(sorted(parts), key=len)
-
-
 def shortest_part(script):
     """Return the shortest script with the same effect that results from leaving out calls."""
     check_compared([script], MOST_COMPARED_CALLS)
-    for part in parts_of(script):
+    for part in parts_in_order(script):
         if parting_of(script, part) is None:
             return part
     return script

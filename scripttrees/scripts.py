@@ -12,7 +12,7 @@ def is_script(candidate):
     """Return whether candidate is a script."""
     if not isinstance(candidate, tuple) or len(candidate) > MOST_CALLS:
         return False
-    return all(is_call(call) for call in candidate)
+    return all([is_call(call) for call in candidate])
 
 
 def check_script(script):

@@ -14,7 +14,7 @@ def is_group(candidate):
     """Return whether candidate is a group."""
     if not isinstance(candidate, list) or not 1 <= len(candidate) <= MOST_SCRIPTS:
         return False
-    return all(is_script(script) for script in candidate) and can_be_judged(candidate)
+    return all([is_script(script) for script in candidate]) and can_be_judged(candidate)
 
 
 def check_group(group):
@@ -40,8 +40,11 @@ def standing_trees(group):
 
 def have_outcomes(answers, group, outcomes):
     """Return whether the scripts of a group have some outcomes on the trees that give some answers."""
-    # Where one script has another outcome, no more is asked, and all trees that go on alike are passed over at once.
-    return all(outcome_for(answers, group[at]) == outcomes[at] for at in range(len(group)))
+    for at in range(len(group)):
+        # No more is asked where one has another outcome, and all trees that go on alike are passed over at once.
+        if outcome_for(answers, group[at]) != outcomes[at]:
+            return False
+    return True
 
 
 def stands_for(group, tree):

@@ -29,7 +29,7 @@ class State:
 
     def is_empty(self, folder):
         """Return whether a folder has no entry."""
-        return all(entry is None for entry in folder.entries.values())
+        return all([entry is None for entry in folder.entries.values()])
 
     def are_same(self, one, other):
         """Return whether two paths that lead to these files lead to the same file."""

@@ -56,10 +56,15 @@ def check_place(path):
         raise InvalidPath("this is neither a path nor empty")
 
 
+def tree_in(table):
+    """Return the tree of what is known to be a table, also if the tree is too large."""
+    return tree_of(State(things_of(table)[0]))
+
+
 def shown(table):
     """Return the tree of a table."""
     check_table(table)
-    tree = tree_of(State(things_of(table)[0]))
+    tree = tree_in(table)
     if not is_tree(tree):
         raise InvalidTree("the tree of the table is too large")
     return tree

@@ -5,10 +5,15 @@ from scripttrees.scripts import check_script, is_script
 from scripttrees.trees import check_tree, is_tree
 
 
+def call_text(call):
+    """Return the text of what is known to be a call."""
+    return " ".join(call)
+
+
 def script_text(script):
     """Return the text of a script."""
     check_script(script)
-    return "; ".join(" ".join(call) for call in script)
+    return "; ".join([call_text(call) for call in script])
 
 
 def read_script(text):
@@ -67,7 +72,7 @@ def guessed_tree(lines):
 
 def read_tree(lines):
     """Return the tree whose lines these are."""
-    if not isinstance(lines, list) or not all(isinstance(line, str) for line in lines):
+    if not isinstance(lines, list) or not all([isinstance(line, str) for line in lines]):
         raise ParseError("this is not a list of strings")
     tree = guessed_tree(lines)
     # The guess is lenient; its lines tell whether each sign of the given ones was right.

@@ -1,6 +1,6 @@
 """Trees: what they are, and what stands in them."""
 
-from scripttrees.errors import InvalidPath, InvalidTree, NoFile, NoFolder
+from scripttrees.errors import InvalidTree, NoFile, NoFolder
 from scripttrees.names import check_path, end_of, is_path, is_word, parent
 
 MOST_PATHS = 100
@@ -9,21 +9,21 @@ MOST_WORDS = 20
 
 def is_ascending(rows):
     """Return whether rows that can be compared are sorted without duplicates."""
-    return all(rows[at] < rows[at + 1] for at in range(len(rows) - 1))
+    return all([rows[at] < rows[at + 1] for at in range(len(rows) - 1)])
 
 
 def are_paths(candidate):
     """Return whether candidate is an ascending tuple of paths."""
     if not isinstance(candidate, tuple):
         return False
-    return all(is_path(path) for path in candidate) and is_ascending(candidate)
+    return all([is_path(path) for path in candidate]) and is_ascending(candidate)
 
 
 def are_words(candidate):
     """Return whether candidate is a tuple of words, not too many for a file."""
     if not isinstance(candidate, tuple) or len(candidate) > MOST_WORDS:
         return False
-    return all(is_word(word) for word in candidate)
+    return all([is_word(word) for word in candidate])
 
 
 def is_file_row(candidate):
@@ -37,7 +37,7 @@ def are_file_rows(candidate):
     """Return whether candidate is an ascending tuple of files."""
     if not isinstance(candidate, tuple):
         return False
-    return all(is_file_row(row) for row in candidate) and is_ascending(candidate)
+    return all([is_file_row(row) for row in candidate]) and is_ascending(candidate)
 
 
 def all_paths(tree):
@@ -52,7 +52,7 @@ def fit_together(paths, folders):
     """Return whether no path occurs twice, and each one lies in one of the folders or in the root folder."""
     homes = {folder: True for folder in folders}
     homes[""] = True
-    return len(set(paths)) == len(paths) and all(parent(path) in homes for path in paths)
+    return len(set(paths)) == len(paths) and all([parent(path) in homes for path in paths])
 
 
 def is_tree(candidate):
@@ -140,7 +140,7 @@ def is_part(tree, other):
     """Return whether a tree consists of paths of another tree."""
     check_tree(tree)
     check_tree(other)
-    if any(folder not in other[0] for folder in tree[0]):
+    if any([folder not in other[0] for folder in tree[0]]):
         return False
     rows = {path: row for row in tree[1] for path in row[0]}
     left = len(rows)

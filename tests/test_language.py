@@ -24,8 +24,11 @@ INTERFACE = {
     "together.py": "run_both are_orderly disorder fewest_joins",
     "tables.py": "is_table shown table_of number_at free_number",
     "acting.py": "may act act_all tables_along grant needed_rights",
-    "disks.py": "is_disk",
+    "disks.py": "is_disk blocks_of choose count_free stored loaded count_pieces",
+    "writing.py": "writes_for apply_writes flushed brought_to",
+    "crashes.py": "are_dealings found_disks found_tables can_break",
     "looker.py": "faults is_sound",
+    "images.py": "image read_image usage",
 }
 
 ALLOWED_BUILTINS = set("""len range enumerate zip min max sum abs sorted reversed int str bool list tuple dict set
@@ -37,7 +40,7 @@ rstrip setdefault split splitlines startswith strip update upper values zfill bi
 __init__""".split())
 
 BARRED_NODES = (ast.AsyncFor, ast.AsyncFunctionDef, ast.AsyncWith, ast.Await, ast.Global, ast.Import, ast.Lambda,
-                ast.Try, ast.With, ast.Yield, ast.YieldFrom, ast.Div, ast.Pow, ast.MatMult,
+                ast.With, ast.Yield, ast.YieldFrom, ast.Div, ast.Pow, ast.MatMult,
                 ast.NamedExpr, ast.Starred, ast.Delete, ast.Assert, ast.AnnAssign, ast.JoinedStr)
 
 BARRED_WORDS = re.compile(r"\b(type|typing|enum|Enum|Flag|Generic|Protocol|ABC|namedtuple|NamedTuple|TypedDict|"
@@ -86,6 +89,25 @@ class Language(unittest.TestCase):
                     self.assertLessEqual(node.end_lineno - node.lineno + 1, 40, node.name)
                 if isinstance(node, ast.Constant) and not isinstance(node.value, str):
                     self.assertIn(type(node.value), (int, bool, type(None)))
+
+    def test_only_own_errors_are_caught(self):
+        own = {node.name for node in self.trees["errors.py"].body if isinstance(node, ast.ClassDef)}
+        for name, tree in self.trees.items():
+            for node in ast.walk(tree):
+                if isinstance(node, ast.Try):
+                    self.assertEqual((node.finalbody, node.orelse), ([], []), name)
+                    for handler in node.handlers:
+                        self.assertIsNone(handler.name)
+                        found = {part.id for part in ast.walk(handler.type) if isinstance(part, ast.Name)}
+                        self.assertTrue(found and found <= own, (name, found))
+
+    def test_no_generators_where_lists_are_asked_for(self):
+        for name, tree in self.trees.items():
+            for node in ast.walk(tree):
+                if isinstance(node, ast.Call) and isinstance(node.func, ast.Name):
+                    if node.func.id in ("any", "all", "min", "max", "sum", "sorted"):
+                        for argument in node.args:
+                            self.assertNotIsInstance(argument, ast.GeneratorExp, (name, node.lineno))
 
     def test_imports(self):
         reached = {}

@@ -2,7 +2,7 @@
 
 import random
 
-from helpers import right_name, right_word
+from helpers import random_call, right_name, right_word
 
 USERS = ("a", "b", "c", "d")
 RIGHTS = tuple(one + two + three + four for one in "r-" for two in "w-" for three in "r-" for four in "w-")
@@ -240,3 +240,17 @@ def random_table(dice, most=10, names=("a", "b", "c"), rights=RIGHTS, users=USER
 def some_tables(seed, many, **more):
     dice = random.Random(seed)
     return [random_table(dice, **more) for _ in range(many)]
+
+
+def random_script(dice, table, user, paths):
+    """Return a script of up to four calls most of which succeed."""
+    script = []
+    for _ in range(dice.randrange(1, 5)):
+        for _ in range(dice.choice((1, 20))):
+            call = random_call(dice, paths)
+            result, after, _ = plain_act(table, user, call)
+            if result == "ok":
+                table = after
+                break
+        script.append(call)
+    return tuple(script)

@@ -27,8 +27,17 @@ INTERFACE = {
     "disks.py": "is_disk blocks_of choose count_free stored loaded count_pieces",
     "writing.py": "writes_for apply_writes flushed brought_to",
     "crashes.py": "are_dealings found_disks found_tables can_break",
+    "cutoff.py": "dealings_of trees_found can_lose fewest_flushes",
     "looker.py": "faults is_sound",
+    "mender.py": "mended loss",
     "images.py": "image read_image usage",
+    "quotas.py": "are_limits used over act_within least_limits",
+}
+
+# The methods of classes, each of which has to stand in the class itself.
+CLASSES = {
+    "album.py": ("Album", "__init__ table taken free change take drop snapshot alone go_back"),
+    "session.py": ("Session", "__init__ __eq__ __len__ table user log do grant become undo redo copy"),
 }
 
 ALLOWED_BUILTINS = set("""len range enumerate zip min max sum abs sorted reversed int str bool list tuple dict set
@@ -175,3 +184,20 @@ class Language(unittest.TestCase):
             own = [node.name for node in self.trees[name].body if isinstance(node, ast.FunctionDef)]
             for word in words.split():
                 self.assertIn(word, own, name)
+        for name, (title, words) in CLASSES.items():
+            own = [part for part in self.trees[name].body if isinstance(part, ast.ClassDef) and part.name == title]
+            self.assertEqual(len(own), 1)
+            methods = [node.name for node in own[0].body if isinstance(node, ast.FunctionDef)]
+            self.assertEqual(len(methods), len(set(methods)))
+            for word in words.split():
+                self.assertIn(word, methods, name)
+
+    def test_no_name_is_a_method_and_an_attribute(self):
+        methods, attributes = set(), set()
+        for tree in self.trees.values():
+            for part in tree.body:
+                if isinstance(part, ast.ClassDef):
+                    methods |= {node.name for node in part.body if isinstance(node, ast.FunctionDef)}
+            attributes |= {node.attr for node in ast.walk(tree)
+                           if isinstance(node, ast.Attribute) and isinstance(node.ctx, ast.Store)}
+        self.assertEqual(methods & attributes, set())

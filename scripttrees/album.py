@@ -30,7 +30,6 @@ class SharedGround(Ground):
 
     def give_back(self, blocks):
         """Take blocks that a node does not keep; those that no snapshot has can be chosen from now on."""
-        super().give_back(blocks)
         self.spare = sorted(self.spare + [block for block in blocks if block not in self.fixed])
 
 

@@ -13,7 +13,7 @@ FIRST_DATA_BLOCK = 5
 USED = "#"
 FREE = "."
 HELD = "h"
-SIGNS = (USED, FREE, HELD)
+SIGNS = ("#", ".", "h")
 
 
 def is_map(candidate, size):

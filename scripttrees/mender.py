@@ -2,9 +2,9 @@
 
 from scripttrees.blocks import FIRST_DATA_BLOCK, FREE, IN_BLOCK, USED, all_slots, blocks_in, built_disk, check_disk
 from scripttrees.blocks import count_blocks, extents_of, items_in, slots_of
-from scripttrees.nodes import ALL_RIGHTS, are_items
+from scripttrees.nodes import are_items
 
-NEW_ROOT = ("folder", "a", ALL_RIGHTS, 0, ())
+NEW_ROOT = ("folder", "a", "rwrw", 0, ())
 
 
 class Mending:

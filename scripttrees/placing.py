@@ -42,9 +42,9 @@ class Ground:
         self.blocks = list(blocks)
         # The blocks that can be chosen, ascending.
         self.spare = spare
-        # The blocks that were chosen, and those that were given back, so far.
+        # The blocks that were chosen so far, and those that were given back and are held.
         self.gone = []
-        self.back = []
+        self.held = []
 
     def may_change(self, block):
         """Return whether the value of a block that a node keeps may change."""
@@ -52,7 +52,7 @@ class Ground:
 
     def give_back(self, blocks):
         """Take blocks that a node does not keep."""
-        self.back.extend(blocks)
+        self.held.extend(blocks)
 
     def gain(self, many):
         """Choose so many blocks, and return the list of them."""
@@ -125,7 +125,7 @@ def table_on(disk):
 def new_map(disk, ground):
     """Return the list of the signs of the map of a disk behind what was done to its blocks."""
     signs = list(disk[0])
-    for block in ground.back:
+    for block in ground.held:
         signs[block] = HELD
     for block in ground.gone:
         signs[block] = USED

@@ -1,6 +1,6 @@
 """Limits for what users have."""
 
-from scripttrees.acting import act_on, check_acting, tables_along
+from scripttrees.acting import act_on, tables_along
 from scripttrees.blocks import count_blocks
 from scripttrees.calls import check_call
 from scripttrees.errors import InvalidLimits
@@ -88,7 +88,6 @@ def least_limit(row):
 
 def least_limits(table, user, script):
     """Return the least limits for a user with which a script gives the same as without limits."""
-    check_acting(table, user, script)
     rows = [amounts(after, user) for after in tables_along(table, user, script)]
     # A call keeps within both limits, or fails, whatever the other one is.
     return least_limit([nodes for nodes, _ in rows]), least_limit([blocks for _, blocks in rows])
